@@ -72,6 +72,47 @@ func figureHas(f figure, off way) bool {
 	return false
 }
 
+// span is a Box to be reckoned with, past the limits if need be.
+type span struct {
+	low  way
+	high way
+}
+
+// spanOf is a Box just as it was given.
+func spanOf(b Box) span {
+	return span{low: wayOf(b.Low), high: wayOf(b.High)}
+}
+
+// spanAround is as far as a way to each side of a middle.
+func spanAround(middle way, reach way) span {
+	return span{low: middle.less(reach), high: middle.plus(reach)}
+}
+
+// box is the span as it is handed out.
+func (s span) box() Box {
+	return Box{Low: s.low.vec(), High: s.high.vec()}
+}
+
+// meets says whether both spans have a point in common.
+func (s span) meets(o span) bool {
+	return s.low.noneGreater(o.high) && o.low.noneGreater(s.high)
+}
+
+// has says whether all of another span is in this one.
+func (s span) has(o span) bool {
+	return s.low.noneGreater(o.low) && o.high.noneGreater(s.high)
+}
+
+// both is the least span that has two.
+func (s span) both(o span) span {
+	return span{low: s.low.least(o.low), high: s.high.greatest(o.high)}
+}
+
+// near is the point of the span that is nearest to one.
+func (s span) near(p way) way {
+	return p.greatest(s.low).least(s.high)
+}
+
 // isSize says whether a shape may be so wide.
 func isSize(n int) bool {
 	return 1 <= n && n <= WideMax
@@ -114,8 +155,7 @@ func ShapeBounds(s Shape, at Vec) Box {
 	if !ok || !isPlace(at) {
 		return Box{}
 	}
-	middle := wayOf(at)
-	return Box{Low: middle.less(f.reach()).vec(), High: middle.plus(f.reach()).vec()}
+	return spanAround(wayOf(at), f.reach()).box()
 }
 
 // ShapeHas says whether a shape at a place has a point.
@@ -132,7 +172,7 @@ func BoxMeets(a Box, b Box) bool {
 	if !BoxOk(a) || !BoxOk(b) {
 		return false
 	}
-	return wayOf(a.Low).noneGreater(wayOf(b.High)) && wayOf(b.Low).noneGreater(wayOf(a.High))
+	return spanOf(a).meets(spanOf(b))
 }
 
 // BoxBoth is the least box that has two.
@@ -140,10 +180,7 @@ func BoxBoth(a Box, b Box) Box {
 	if !BoxOk(a) || !BoxOk(b) {
 		return Box{}
 	}
-	return Box{
-		Low:  wayOf(a.Low).least(wayOf(b.Low)).vec(),
-		High: wayOf(a.High).greatest(wayOf(b.High)).vec(),
-	}
+	return spanOf(a).both(spanOf(b)).box()
 }
 
 // BoxHas says whether a box has another one.
@@ -151,7 +188,7 @@ func BoxHas(a Box, b Box) bool {
 	if !BoxOk(a) || !BoxOk(b) {
 		return false
 	}
-	return wayOf(a.Low).noneGreater(wayOf(b.Low)) && wayOf(b.High).noneGreater(wayOf(a.High))
+	return spanOf(a).has(spanOf(b))
 }
 
 // BoxNear is the point of a box that is nearest to one.
@@ -159,5 +196,5 @@ func BoxNear(b Box, p Vec) Vec {
 	if !BoxOk(b) || !VecOk(p) {
 		return Vec{}
 	}
-	return wayOf(p).greatest(wayOf(b.Low)).least(wayOf(b.High)).vec()
+	return spanOf(b).near(wayOf(p)).vec()
 }
