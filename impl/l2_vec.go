@@ -54,6 +54,16 @@ func (w way) products(o way) number {
 	return w[0]*o[0] + w[1]*o[1]
 }
 
+// dot is how far both ways go together, within limits.
+func (w way) dot(o way) number {
+	return (w.products(o) / One).held(FixMax)
+}
+
+// opposite is the way turned round.
+func (w way) opposite() way {
+	return way{-w[0], -w[1]}
+}
+
 // length is how long the way is, within limits.
 func (w way) length() number {
 	return w.products(w).root().held(FixMax)
@@ -90,7 +100,7 @@ func VecMul(a Vec, n int) Vec {
 
 // VecDot is how far two ways go together.
 func VecDot(a Vec, b Vec) int {
-	return int((fixWayOf(a).products(fixWayOf(b)) / One).held(FixMax))
+	return int(fixWayOf(a).dot(fixWayOf(b)))
 }
 
 // VecLen is how long a way is.
